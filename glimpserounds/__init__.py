@@ -1,0 +1,1 @@
+"""Signs whose text goes round, known by glimpses."""

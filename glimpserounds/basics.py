@@ -1,0 +1,112 @@
+"""What the modules share: the checks of plain arguments, and what a reading lets stand at a place."""
+
+from glimpserounds.errors import InvalidDead, InvalidGroups, InvalidLength, InvalidPace, InvalidPaces
+from glimpserounds.errors import InvalidTime, InvalidWidth
+from glimpserounds.limits import GREATEST, MOST_LENGTH, MOST_PACE, MOST_WIDTH
+
+SMALL = "abcdefghijklmnopqrstuvwxyz"
+CAPITALS = "ABCDEFGHIJKLMNOPQRSTUVWXYZ"
+LETTERS = "-abcdefghijklmnopqrstuvwxyz"
+UNREAD = "?"
+
+
+def is_whole(value, least, most):
+    """Whether the value is an integer from the least to the most; True and False are no integers."""
+    return isinstance(value, int) and not isinstance(value, bool) and least <= value <= most
+
+
+def check_time(time):
+    if not is_whole(time, 0, GREATEST):
+        raise InvalidTime(time)
+
+
+def check_width(width):
+    if not is_whole(width, 1, MOST_WIDTH):
+        raise InvalidWidth(width)
+
+
+def check_pace(pace):
+    if not is_whole(pace, -MOST_PACE, MOST_PACE):
+        raise InvalidPace(pace)
+
+
+def check_length(length, least):
+    if not is_whole(length, least, MOST_LENGTH):
+        raise InvalidLength(length)
+
+
+def first_not_rising(row, least, most):
+    """The index of the first item that is no integer from least to most above the one ahead; None if all are."""
+    floor = least
+    for index, item in enumerate(row):
+        if not is_whole(item, floor, most):
+            return index
+        floor = item + 1
+    return None
+
+
+def check_dead(dead, width):
+    if not isinstance(dead, tuple):
+        raise InvalidDead(None)
+    index = first_not_rising(dead, 0, width - 1)
+    if index is not None:
+        raise InvalidDead(index)
+
+
+def check_paces(paces):
+    if not isinstance(paces, tuple) or len(paces) == 0:
+        raise InvalidPaces(None)
+    index = first_not_rising(paces, -MOST_PACE, MOST_PACE)
+    if index is not None:
+        raise InvalidPaces(index)
+
+
+def is_group(value, used):
+    """Whether the value is a group beside groups that already hold the used letters."""
+    if not isinstance(value, str) or len(value) < 2:
+        return False
+    return all([letter in SMALL and letter not in used and value.count(letter) == 1 for letter in value])
+
+
+def first_no_group(groups):
+    """The index of the first item that is no group beside those ahead of it; None if all are."""
+    used = ""
+    for index, group in enumerate(groups):
+        if not is_group(group, used):
+            return index
+        used += group
+    return None
+
+
+def check_groups(groups):
+    if not isinstance(groups, tuple):
+        raise InvalidGroups(None)
+    index = first_no_group(groups)
+    if index is not None:
+        raise InvalidGroups(index)
+
+
+def letters_for(mark, groups):
+    """The letters that agree with one character of a reading; none if it cannot stand in one."""
+    if mark == UNREAD:
+        return LETTERS
+    if mark in LETTERS:
+        return mark
+    # Some characters other than A to Z have a small letter from a to z, too.
+    if mark not in CAPITALS:
+        return ""
+    for group in groups:
+        if mark.lower() in group:
+            return group
+    return ""
+
+
+def is_reading(value, width, groups):
+    if not isinstance(value, str) or len(value) != width:
+        return False
+    return all([letters_for(mark, groups) != "" for mark in value])
+
+
+def agrees(window, reading, groups):
+    """Whether a window agrees with a reading of the same width."""
+    return all([letter in letters_for(mark, groups) for letter, mark in zip(window, reading)])
