@@ -35,6 +35,11 @@ class Record:
     def most(self):
         return self.kept[3]
 
+    @most.setter
+    def most(self, value):
+        # Only because an error assigns its own attribute of this name; a record never changes.
+        raise AttributeError("the most length of a record cannot be assigned")
+
     @property
     def paces(self):
         return self.kept[4]

@@ -83,6 +83,16 @@ class PropertiesTest(PromiseTest):
             self.assertEqual(seen.told, (*told[:-1], ((7, "???"), (5, "???"))))
             self.assertEqual(seen.told, parts(seen))
 
+    def test_no_property_can_be_assigned(self):
+        for record in (Record(3), Record(3, dead=(1,), least=2, most=9, paces=(0, 1), groups=("ab",)).seen(4, "A??")):
+            told = record.told
+            for name in (*NAMES, "told"):
+                for value in (getattr(record, name), 4, 40, (), None):
+                    with self.assertRaises(AttributeError):
+                        setattr(record, name, value)
+            self.assertEqual(parts(record), told)
+            self.assertIs(record.told, told)
+
     def test_repr_for_all_numbers(self):
         self.assertEqual(repr(Record(3).seen(0, "aba").seen(1, "ba?")), "Record of 3 places, 2 glances")
         for width in range(1, 9):
