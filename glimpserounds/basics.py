@@ -1,8 +1,8 @@
-"""What the modules share: the checks of plain arguments, and what a reading lets stand at a place."""
+"""What the modules share: the checks of arguments, what stands at a place, and what a reading lets stand there."""
 
-from glimpserounds.errors import InvalidDead, InvalidGroups, InvalidLength, InvalidPace, InvalidPaces
-from glimpserounds.errors import InvalidTime, InvalidWidth
-from glimpserounds.limits import GREATEST, MOST_LENGTH, MOST_PACE, MOST_WIDTH
+from glimpserounds.errors import InvalidDead, InvalidGroups, InvalidLength, InvalidPace, InvalidPaces, InvalidPlace
+from glimpserounds.errors import InvalidTime, InvalidTimes, InvalidWidth, InvalidWindow
+from glimpserounds.limits import GREATEST, MOST_LENGTH, MOST_PACE, MOST_TIMES, MOST_WIDTH
 
 SMALL = "abcdefghijklmnopqrstuvwxyz"
 CAPITALS = "ABCDEFGHIJKLMNOPQRSTUVWXYZ"
@@ -23,6 +23,11 @@ def check_time(time):
 def check_width(width):
     if not is_whole(width, 1, MOST_WIDTH):
         raise InvalidWidth(width)
+
+
+def check_place(place, width):
+    if not is_whole(place, 0, width - 1):
+        raise InvalidPlace(place)
 
 
 def check_pace(pace):
@@ -61,6 +66,16 @@ def check_paces(paces):
         raise InvalidPaces(index)
 
 
+def check_times(times):
+    if not isinstance(times, tuple):
+        raise InvalidTimes(None)
+    index = first_not_rising(times[:MOST_TIMES], 0, GREATEST)
+    if index is not None:
+        raise InvalidTimes(index)
+    if len(times) > MOST_TIMES:
+        raise InvalidTimes(MOST_TIMES)
+
+
 def is_group(value, used):
     """Whether the value is a group beside groups that already hold the used letters."""
     if not isinstance(value, str) or len(value) < 2:
@@ -86,6 +101,12 @@ def check_groups(groups):
         raise InvalidGroups(index)
 
 
+def numbers_at(time, width, length, pace):
+    """For each place of the window at the time, the number of the letter of the text that stands there."""
+    start = pace * time % length
+    return [(place + start) % length for place in range(width)]
+
+
 def letters_for(mark, groups):
     """The letters that agree with one character of a reading; none if it cannot stand in one."""
     if mark == UNREAD:
@@ -107,6 +128,34 @@ def is_reading(value, width, groups):
     return all([letters_for(mark, groups) != "" for mark in value])
 
 
+def check_window(window, width, groups):
+    if not is_reading(window, width, groups):
+        raise InvalidWindow(window)
+
+
 def agrees(window, reading, groups):
     """Whether a window agrees with a reading of the same width."""
     return all([letter in letters_for(mark, groups) for letter, mark in zip(window, reading)])
+
+
+def mask_of(letters):
+    """These letters as one integer with a bit for each, so that what two rows of letters share is found by & alone."""
+    mask = 0
+    for letter in letters:
+        mask |= 1 << LETTERS.index(letter)
+    return mask
+
+
+def letters_in(mask):
+    """The letters of a mask, ascending."""
+    return "".join([letter for bit, letter in enumerate(LETTERS) if (mask >> bit) & 1 == 1])
+
+
+def masks_for(reading, groups):
+    """For each place of a reading the mask of the letters that agree with it."""
+    return [mask_of(letters_for(mark, groups)) for mark in reading]
+
+
+def are_within(masks, others):
+    """Whether all letters of each mask are in the one at its place among the others, too."""
+    return all([mask & other == mask for mask, other in zip(masks, others)])

@@ -1,7 +1,7 @@
 """Records: what is known of a sign, and the glances at it."""
 
 from glimpserounds.basics import UNREAD, agrees, check_dead, check_groups, check_length, check_paces, check_time
-from glimpserounds.basics import check_width, is_reading
+from glimpserounds.basics import check_width, check_window
 from glimpserounds.errors import InvalidWindow, NotARecord, OtherKind, TooMany, WrongValue
 from glimpserounds.limits import MOST_GLANCES
 from glimpserounds.signs import check_sign
@@ -58,7 +58,8 @@ class Record:
 
     def seen(self, time, window):
         check_time(time)
-        if not is_reading(window, self.width, self.groups) or not unread_where_dead(window, self.dead):
+        check_window(window, self.width, self.groups)
+        if not unread_where_dead(window, self.dead):
             raise InvalidWindow(window)
         if len(self.glances) >= MOST_GLANCES:
             raise TooMany(MOST_GLANCES)

@@ -1,6 +1,6 @@
 """Signs: texts that run round and round behind a window."""
 
-from glimpserounds.basics import LETTERS, check_pace, check_time, check_width
+from glimpserounds.basics import LETTERS, check_pace, check_time, check_width, numbers_at
 from glimpserounds.errors import InvalidText, NotASign
 from glimpserounds.limits import MOST_LENGTH
 
@@ -32,9 +32,8 @@ class Sign:
     def window(self, time, width):
         check_time(time)
         check_width(width)
-        start = self.kept_pace * time
-        length = len(self.kept_text)
-        return "".join([self.kept_text[(place + start) % length] for place in range(width)])
+        numbers = numbers_at(time, width, len(self.kept_text), self.kept_pace)
+        return "".join([self.kept_text[number] for number in numbers])
 
     def __eq__(self, other):
         return isinstance(other, Sign) and self.kept_text == other.kept_text and self.kept_pace == other.kept_pace

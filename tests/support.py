@@ -6,6 +6,9 @@ import unittest
 from decimal import Decimal
 from fractions import Fraction
 
+from glimpserounds.records import Record
+from glimpserounds.signs import Sign
+
 LETTERS = "-abcdefghijklmnopqrstuvwxyz"
 GREATEST = 10 ** 30
 
@@ -35,6 +38,15 @@ NO_TUPLES = [
 
 NO_WIDTHS = [*NO_INTEGERS, 0, -1, -8, 9, 10, 40, GREATEST]
 NO_TIMES = [*NO_INTEGERS, -1, -2, -GREATEST, GREATEST + 1, GREATEST * 10, 10 ** 39]
+NO_RECORDS = [
+    *NO_INTEGERS, *NO_STRINGS, *NO_TUPLES, Record, Sign("ab"), Record(2).told, (Record(2),), [Record(2)], "Record",
+    {"record": Record(2)}, repr(Record(2)),
+]
+# What is no reading of three places with the group ab.
+NO_WINDOWS = [
+    *NO_STRINGS, "", "a", "ab", "abca", "????", "abcabc", "abC", "a.c", "a c", "ab1", "ab_", "ab\n", "ab*",
+    "ab\u00e9", "\u00aaab", "\u212aab", "\u0391ab", "ab\uff21", "ab\udc80",
+]
 
 
 def crowded(number, record):
@@ -70,6 +82,18 @@ def fits_by_hand(told, text, pace):
 def some(seed):
     """A row of choices that is the same in every run."""
     return random.Random(seed)
+
+
+def some_reading(choice, record, text, pace, time, wrong=0.02):
+    """A reading that mostly agrees with the sign with this text and pace."""
+    reading = ""
+    for place, letter in enumerate(window_by_hand(text, pace, time, record.width)):
+        group = "".join(group for group in record.groups if letter in group)
+        marks = [letter, letter, "?"] + [other.upper() for other in group]
+        if choice.random() < wrong:
+            marks = "bc-" + "".join(record.groups).upper()
+        reading += "?" if place in record.dead else choice.choice(marks)
+    return reading
 
 
 def same(one, other):

@@ -1,6 +1,7 @@
 """Rules of the language that no run of the program shows: they are looked up in the rows of the package."""
 
 import ast
+import builtins
 import pathlib
 import unittest
 
@@ -8,6 +9,15 @@ import glimpserounds
 
 FOLDER = pathlib.Path(glimpserounds.__file__).parent
 FILES = sorted(FOLDER.glob("*.py"))
+# The functions and classes of the interface, by the file that lists them.
+INTERFACE = {
+    "signs": ("Sign", "first_unlike"),
+    "records": ("Record",),
+    "pairs": ("pairs", "number_of", "shortest"),
+    "letters": ("letters", "sure", "can", "must"),
+    "beside": ("implies", "alike", "apart", "together", "changes"),
+    "moments": ("settles", "settling"),
+}
 
 
 def rows_of(path):
@@ -83,6 +93,64 @@ class SizeTest(unittest.TestCase):
             for node in ast.walk(rows_of(path)):
                 if isinstance(node, ast.FunctionDef):
                     self.assertLessEqual(node.end_lineno - node.lineno + 1, 40, f"{path.name} {node.name}")
+
+
+def bound_by_imports(tree):
+    return [name.asname or name.name for row in tree.body if isinstance(row, ast.ImportFrom) for name in row.names]
+
+
+def defined(tree):
+    return [row.name for row in tree.body if isinstance(row, (ast.FunctionDef, ast.ClassDef))]
+
+
+def bound_at_module_level(tree):
+    targets = [target.id for row in tree.body if isinstance(row, ast.Assign) for target in row.targets]
+    return bound_by_imports(tree) + defined(tree) + targets
+
+
+class NamesTest(unittest.TestCase):
+    """L15 and L16: where names come from, and that none means two things."""
+
+    def test_the_interface_is_defined_in_its_files(self):
+        for name, wanted in INTERFACE.items():
+            self.assertEqual([each for each in wanted if each not in defined(rows_of(FOLDER / (name + ".py")))], [], name)
+
+    def test_each_name_is_bound_once_and_imported_from_where_it_is_defined(self):
+        known = {"glimpserounds." + path.stem: bound_at_module_level(rows_of(path)) for path in FILES}
+        for path in FILES:
+            tree = rows_of(path)
+            names = bound_at_module_level(tree)
+            self.assertEqual(sorted(names), sorted(set(names)), path.name)
+            self.assertEqual([row for row in ast.walk(tree) if isinstance(row, ast.Import)], [])
+            for row in tree.body:
+                if isinstance(row, ast.ImportFrom):
+                    imported_there = bound_by_imports(rows_of(FOLDER / (row.module.split(".")[1] + ".py")))
+                    for name in row.names:
+                        self.assertIn(name.name, known[row.module], path.name)
+                        self.assertNotIn(name.name, imported_there, path.name)
+
+    def test_no_import_is_left_over(self):
+        for path in FILES:
+            tree = rows_of(path)
+            read = {node.id for node in ast.walk(tree) if isinstance(node, ast.Name)}
+            self.assertEqual([name for name in bound_by_imports(tree) if name not in read], [], path.name)
+
+    def test_no_name_of_a_function_means_something_else(self):
+        for path in FILES:
+            tree = rows_of(path)
+            classes = [row.name for row in tree.body if isinstance(row, ast.ClassDef)]
+            taken = {*bound_by_imports(tree), *classes, *dir(builtins)}
+            for node in ast.walk(tree):
+                if isinstance(node, ast.arg):
+                    self.assertNotIn(node.arg, taken, path.name)
+                if isinstance(node, ast.Name) and isinstance(node.ctx, ast.Store):
+                    self.assertNotIn(node.id, taken, path.name)
+
+    def test_lists_instead_of_generators(self):
+        """L5 Operators and L7, as records have an operator and signs and records compare."""
+        for path in FILES:
+            kinds = (ast.GeneratorExp, ast.Yield, ast.YieldFrom, ast.Lambda, ast.Global)
+            self.assertEqual([node.lineno for node in ast.walk(rows_of(path)) if isinstance(node, kinds)], [], path.name)
 
 
 if __name__ == "__main__":

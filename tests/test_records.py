@@ -4,8 +4,8 @@ from glimpserounds.errors import InvalidDead, InvalidGroups, InvalidLength, Inva
 from glimpserounds.errors import InvalidTime, InvalidWindow, NotARecord, TooMany
 from glimpserounds.records import Record
 from glimpserounds.signs import Sign
-from tests.support import GREATEST, LETTERS, NO_INTEGERS, NO_STRINGS, NO_TIMES, NO_TUPLES, NO_WIDTHS, PromiseTest
-from tests.support import crowded, same
+from tests.support import GREATEST, LETTERS, NO_INTEGERS, NO_STRINGS, NO_TIMES, NO_TUPLES, NO_WIDTHS, NO_WINDOWS
+from tests.support import PromiseTest, crowded, same
 
 SMALL = LETTERS[1:]
 ALL_PACES = tuple(range(-9, 10))
@@ -282,11 +282,7 @@ class SeenTest(PromiseTest):
 
     def test_what_is_no_reading(self):
         record = Record(3, groups=("ab",))
-        wrong_windows = [
-            *NO_STRINGS, "", "a", "ab", "abca", "????", "abcabc", "abC", "a.c", "a c", "ab1", "ab_", "ab\n", "ab*",
-            "ab\u00e9", "\u00aaab", "\u212aab", "\u0391ab", "ab\uff21", "ab\udc80",
-        ]
-        for window in wrong_windows:
+        for window in NO_WINDOWS:
             self.check_raises(InvalidWindow, "given", window, record.seen, 0, window)
             self.check_raises(InvalidWindow, "given", window, record.seen, window=window, time=0)
         # The small letter of this character is k.

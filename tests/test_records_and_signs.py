@@ -6,8 +6,8 @@ import unittest
 from glimpserounds.errors import NotARecord, NotASign, OtherKind, TooMany
 from glimpserounds.records import Record
 from glimpserounds.signs import Sign
-from tests.support import GREATEST, LETTERS, NO_INTEGERS, NO_STRINGS, NO_TUPLES, PromiseTest
-from tests.support import crowded, fits_by_hand, some, window_by_hand
+from tests.support import GREATEST, LETTERS, NO_INTEGERS, NO_RECORDS, NO_STRINGS, PromiseTest
+from tests.support import crowded, fits_by_hand, some, some_reading, window_by_hand
 
 
 class FitsTest(PromiseTest):
@@ -97,22 +97,11 @@ class FitsTest(PromiseTest):
             sign = Sign("".join(choice.choices("aabcd-", k=choice.randint(1, 9))), choice.choice(paces))
             for glance in range(choice.randint(0, 5)):
                 time = choice.choice((choice.randint(0, 30), GREATEST - choice.randint(0, 9)))
-                record = record.seen(time, self.some_reading(choice, sign, time, record))
+                record = record.seen(time, some_reading(choice, record, sign.text, sign.pace, time))
             fitting += self.check(record, sign)
             self.check(record, Sign(sign.text, choice.randint(-9, 9)))
             self.check(record, Sign(sign.text[::-1], sign.pace))
         self.assertTrue(500 < fitting < 2500, fitting)
-
-    def some_reading(self, choice, sign, time, record):
-        """A reading that mostly agrees with the sign."""
-        reading = ""
-        for place, letter in enumerate(window_by_hand(sign.text, sign.pace, time, record.width)):
-            group = "".join(group for group in record.groups if letter in group)
-            marks = [letter, letter, "?"] + [other.upper() for other in group]
-            if choice.random() < 0.02:
-                marks = "bd-" + "".join(record.groups).upper()
-            reading += "?" if place in record.dead else choice.choice(marks)
-        return reading
 
     def test_by_name(self):
         self.assertIs(Record(2).seen(0, "ab").fits(sign=Sign("ab")), True)
@@ -189,7 +178,7 @@ class JoinedTest(PromiseTest):
 
     def test_not_a_record(self):
         for record in (Record(2), crowded(12, Record(2))):
-            for wrong in [*NO_INTEGERS, *NO_STRINGS, *NO_TUPLES, record.told, (record,), [record], Record, Sign("ab")]:
+            for wrong in NO_RECORDS:
                 self.check_raises(NotARecord, "given", wrong, record.joined, wrong)
                 self.check_raises(NotARecord, "given", wrong, record.joined, other=wrong)
 
