@@ -1,13 +1,14 @@
 """What the modules share: the checks of arguments, what stands at a place, and what a reading lets stand there."""
 
 from glimpserounds.errors import InvalidDead, InvalidGroups, InvalidLength, InvalidPace, InvalidPaces, InvalidPlace
-from glimpserounds.errors import InvalidTime, InvalidTimes, InvalidWidth, InvalidWindow
+from glimpserounds.errors import InvalidName, InvalidTime, InvalidTimes, InvalidWidth, InvalidWindow
 from glimpserounds.limits import GREATEST, MOST_LENGTH, MOST_PACE, MOST_TIMES, MOST_WIDTH
 
 SMALL = "abcdefghijklmnopqrstuvwxyz"
 CAPITALS = "ABCDEFGHIJKLMNOPQRSTUVWXYZ"
 LETTERS = "-abcdefghijklmnopqrstuvwxyz"
 UNREAD = "?"
+LONGEST_NAME = 8
 
 
 def is_whole(value, least, most):
@@ -15,8 +16,27 @@ def is_whole(value, least, most):
     return isinstance(value, int) and not isinstance(value, bool) and least <= value <= most
 
 
+def is_row(value, length):
+    return isinstance(value, tuple) and len(value) == length
+
+
+def is_name(value):
+    if not isinstance(value, str) or not 1 <= len(value) <= LONGEST_NAME:
+        return False
+    return all([letter in SMALL for letter in value])
+
+
+def check_name(name):
+    if not is_name(name):
+        raise InvalidName(name)
+
+
+def is_time(value):
+    return is_whole(value, 0, GREATEST)
+
+
 def check_time(time):
-    if not is_whole(time, 0, GREATEST):
+    if not is_time(time):
         raise InvalidTime(time)
 
 
@@ -30,13 +50,21 @@ def check_place(place, width):
         raise InvalidPlace(place)
 
 
+def is_pace(value):
+    return is_whole(value, -MOST_PACE, MOST_PACE)
+
+
 def check_pace(pace):
-    if not is_whole(pace, -MOST_PACE, MOST_PACE):
+    if not is_pace(pace):
         raise InvalidPace(pace)
 
 
+def is_length(value, least):
+    return is_whole(value, least, MOST_LENGTH)
+
+
 def check_length(length, least):
-    if not is_whole(length, least, MOST_LENGTH):
+    if not is_length(length, least):
         raise InvalidLength(length)
 
 
@@ -101,9 +129,14 @@ def check_groups(groups):
         raise InvalidGroups(index)
 
 
+def number_at(time, place, length, pace):
+    """The number of the letter of the text that stands at the place at the time."""
+    return (place + pace * time) % length
+
+
 def numbers_at(time, width, length, pace):
     """For each place of the window at the time, the number of the letter of the text that stands there."""
-    start = pace * time % length
+    start = number_at(time, 0, length, pace)
     return [(place + start) % length for place in range(width)]
 
 
@@ -126,6 +159,13 @@ def is_reading(value, width, groups):
     if not isinstance(value, str) or len(value) != width:
         return False
     return all([letters_for(mark, groups) != "" for mark in value])
+
+
+def is_view(value):
+    """Whether the value is a reading for some width and some groups."""
+    if not isinstance(value, str) or not 1 <= len(value) <= MOST_WIDTH:
+        return False
+    return all([mark == UNREAD or mark in LETTERS or mark in CAPITALS for mark in value])
 
 
 def check_window(window, width, groups):

@@ -1,12 +1,8 @@
 """One record beside another one, and the first glances of a record beside its last ones."""
 
 from glimpserounds.basics import are_within
-from glimpserounds.pairs import cells, glimpses, let_pairs, possible, some_fits
-from glimpserounds.records import check_record
-
-
-def lets(record, length, pace):
-    return record.least <= length <= record.most and pace in record.paces
+from glimpserounds.pairs import cells, glimpses, possible, some_fits
+from glimpserounds.records import check_record, let_pairs, lets, shared_pairs
 
 
 def implies(one, other):
@@ -29,7 +25,7 @@ def cells_of_both(one, other):
     """A row (length, pace, cells of the one, cells of the other) for each pair that both let, ascending."""
     first = glimpses(one)
     last = glimpses(other)
-    shared = [(length, pace) for length, pace in let_pairs(one) if lets(other, length, pace)]
+    shared = shared_pairs(one, other)
     return [(length, pace, cells(first, length, pace), cells(last, length, pace)) for length, pace in shared]
 
 

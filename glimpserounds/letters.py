@@ -2,8 +2,8 @@
 
 from glimpserounds.basics import UNREAD, are_within, check_place, check_time, check_window, letters_in, masks_for
 from glimpserounds.basics import numbers_at
-from glimpserounds.pairs import glimpses, let_pairs, possible, some_fits
-from glimpserounds.records import check_record
+from glimpserounds.pairs import glimpses, possible, some_fits
+from glimpserounds.records import check_record, let_pairs
 
 
 def windows_at(record, time):

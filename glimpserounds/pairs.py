@@ -5,7 +5,7 @@ so the texts that fit are all the choices of one letter from each of these bound
 """
 
 from glimpserounds.basics import LETTERS, letters_in, mask_of, masks_for, numbers_at
-from glimpserounds.records import check_record
+from glimpserounds.records import check_record, let_pairs
 from glimpserounds.signs import Sign
 
 
@@ -13,11 +13,6 @@ def glimpses(record):
     """The glances of a record with a mask in the place of each mark."""
     groups = record.groups
     return [(time, masks_for(reading, groups)) for time, reading in record.glances]
-
-
-def let_pairs(record):
-    """The pairs that the lengths and paces of a record let, ascending, whatever was seen."""
-    return [(length, pace) for length in range(record.least, record.most + 1) for pace in record.paces]
 
 
 def cells(looks, length, pace):
@@ -51,6 +46,11 @@ def number_of_texts(row):
     return number
 
 
+def least_text(row):
+    """The least text with its letters in these cells, each of which has some."""
+    return "".join([letters_in(mask)[0] for mask in row])
+
+
 def pairs(record):
     """The pairs (length, pace) that can be for the record, ascending."""
     check_record(record)
@@ -70,4 +70,4 @@ def shortest(record):
     if len(found) == 0:
         return None
     length, pace, row = found[0]
-    return Sign("".join([letters_in(mask)[0] for mask in row]), pace)
+    return Sign(least_text(row), pace)

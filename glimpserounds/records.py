@@ -1,7 +1,7 @@
 """Records: what is known of a sign, and the glances at it."""
 
 from glimpserounds.basics import UNREAD, agrees, check_dead, check_groups, check_length, check_paces, check_time
-from glimpserounds.basics import check_width, check_window
+from glimpserounds.basics import check_width, check_window, is_row
 from glimpserounds.errors import InvalidWindow, NotARecord, OtherKind, TooMany, WrongValue
 from glimpserounds.limits import MOST_GLANCES
 from glimpserounds.signs import check_sign
@@ -67,12 +67,10 @@ class Record:
 
     @staticmethod
     def of(told):
-        if not is_row(told, 7) or not is_row_of_pairs(told[6]):
+        record = record_told(told)
+        if record is None:
             raise NotARecord(told)
-        try:
-            return retold(told)
-        except (WrongValue, TooMany):
-            raise NotARecord(told) from None
+        return record
 
     def fits(self, sign):
         check_sign(sign)
@@ -114,6 +112,21 @@ def check_record(record):
         raise NotARecord(record)
 
 
+def lets(record, length, pace):
+    """Whether the bounds of the record let a sign with this length and pace, whatever was seen."""
+    return record.least <= length <= record.most and pace in record.paces
+
+
+def let_pairs(record):
+    """The pairs (length, pace) that the bounds of the record let, ascending, whatever was seen."""
+    return [(length, pace) for length in range(record.least, record.most + 1) for pace in record.paces]
+
+
+def shared_pairs(one, other):
+    """The pairs (length, pace) that the bounds of both records let, ascending."""
+    return [(length, pace) for length, pace in let_pairs(one) if lets(other, length, pace)]
+
+
 def unread_where_dead(window, dead):
     return all([window[place] == UNREAD for place in dead])
 
@@ -130,12 +143,18 @@ def with_glances(record, glances):
     return made
 
 
-def is_row(value, length):
-    return isinstance(value, tuple) and len(value) == length
-
-
 def is_row_of_pairs(value):
     return isinstance(value, tuple) and all([is_row(item, 2) for item in value])
+
+
+def record_told(told):
+    """The record with this told; None if it is the told of no record."""
+    if not is_row(told, 7) or not is_row_of_pairs(told[6]):
+        return None
+    try:
+        return retold(told)
+    except (WrongValue, TooMany):
+        return None
 
 
 def retold(told):

@@ -83,6 +83,38 @@ def some_window(choice, record, signs):
     return "".join(mark if mark in marks else "?" for mark in reading)
 
 
+def cut(choice, record):
+    """A record with other bounds, and of the glances of this one only some, with fewer places and other groups."""
+    width = choice.randint(1, record.width)
+    least = max(1, min(4, record.least + choice.choice((0, 0, -1, 1))))
+    most = max(least, min(4, record.most + choice.choice((0, 0, 1, -1))))
+    paces = tuple(sorted({*record.paces, *choice.sample(range(-9, 10), 1)})[choice.choice((0, 0, 0, 1)):])
+    groups = choice.choice((record.groups, ("abc",), ("ab",), ()))
+    made = Record(width, least=least, most=most, paces=paces, groups=groups)
+    for time, reading in record.glances:
+        if choice.random() < 0.8:
+            made = made.seen(time, "".join(blurred(choice, mark, groups) for mark in reading[:width]))
+    return made
+
+
+def blurred(choice, mark, groups):
+    capital = mark.upper() if any(mark.lower() in group for group in groups) else "?"
+    return choice.choice((mark if mark in "-abc" else capital, capital, "?"))
+
+
+def sharpened(choice, record, signs):
+    """The record with a further glance, mostly at one of its signs."""
+    if not signs:
+        return record
+    text, pace = choice.choice(signs)
+    time = some_time(choice)
+    reading = "".join(
+        choice.choice((letter, "?")) if place not in record.dead and letter in "-abc" else "?"
+        for place, letter in enumerate(text[(place + pace * time) % len(text)] for place in range(record.width))
+    )
+    return record.seen(time, reading)
+
+
 def letters_by_hand(told, length, pace, number):
     """The letters that can be number so and so of a text with this length and pace, for any length."""
     width, dead, least, most, paces, groups, glances = told

@@ -4,7 +4,7 @@ import unittest
 from glimpserounds.beside import alike, apart, changes, implies, together
 from glimpserounds.errors import NotARecord
 from glimpserounds.records import Record
-from tests.listing import ALL, FEW, possible_by_hand, some_long_record, some_record, some_time, texts_by_hand
+from tests.listing import ALL, FEW, cut, possible_by_hand, sharpened, some_long_record, some_record, texts_by_hand
 from tests.support import GREATEST, NO_RECORDS, PromiseTest, crowded, some
 
 ALL_PACES = tuple(range(-9, 10))
@@ -15,38 +15,6 @@ NO_FIT = [
     Record(2, dead=(1,), groups=("ab", "cd")).seen(3, "A?").seen(3, "D?"),
 ]
 SOME_FIT = [Record(2), Record(8, most=40, paces=ALL_PACES), Record(1, most=1).seen(0, "a"), Record(2).seen(0, "ab")]
-
-
-def cut(choice, record):
-    """A record with other bounds, and of the glances of this one only some, with fewer places and other groups."""
-    width = choice.randint(1, record.width)
-    least = max(1, min(4, record.least + choice.choice((0, 0, -1, 1))))
-    most = max(least, min(4, record.most + choice.choice((0, 0, 1, -1))))
-    paces = tuple(sorted({*record.paces, *choice.sample(ALL_PACES, 1)})[choice.choice((0, 0, 0, 1)):])
-    groups = choice.choice((record.groups, ("abc",), ("ab",), ()))
-    made = Record(width, least=least, most=most, paces=paces, groups=groups)
-    for time, reading in record.glances:
-        if choice.random() < 0.8:
-            made = made.seen(time, "".join(blurred(choice, mark, groups) for mark in reading[:width]))
-    return made
-
-
-def blurred(choice, mark, groups):
-    capital = mark.upper() if any(mark.lower() in group for group in groups) else "?"
-    return choice.choice((mark if mark in "-abc" else capital, capital, "?"))
-
-
-def sharpened(choice, record, signs):
-    """The record with a further glance, mostly at one of its signs."""
-    if not signs:
-        return record
-    text, pace = choice.choice(signs)
-    time = some_time(choice)
-    reading = "".join(
-        choice.choice((letter, "?")) if place not in record.dead and letter in "-abc" else "?"
-        for place, letter in enumerate(text[(place + pace * time) % len(text)] for place in range(record.width))
-    )
-    return record.seen(time, reading)
 
 
 def turned(text, shift):

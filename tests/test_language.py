@@ -3,6 +3,7 @@
 import ast
 import builtins
 import pathlib
+import re
 import unittest
 
 import glimpserounds
@@ -17,7 +18,42 @@ INTERFACE = {
     "letters": ("letters", "sure", "can", "must"),
     "beside": ("implies", "alike", "apart", "together", "changes"),
     "moments": ("settles", "settling"),
+    "books": ("Book",),
+    "checker": ("accepts",),
+    "certificates": ("certify_barred", "certify_can", "certify_must", "certify_implies", "certify_apart"),
+    "console": ("Console",),
 }
+# The methods and properties of its classes.
+METHODS = {
+    "Sign": ("__init__", "text", "pace", "window", "__eq__", "__len__", "__str__", "__repr__"),
+    "Record": (
+        "__init__", "width", "dead", "least", "most", "paces", "groups", "glances", "told", "seen", "of", "fits", "joined",
+        "__eq__", "__len__", "__repr__",
+    ),
+    "Book": (
+        "__init__", "__setitem__", "__getitem__", "__contains__", "__len__", "names", "claims", "see", "drop", "claim",
+        "lift", "undo", "changes", "do_all", "trial", "tried",
+    ),
+    "Console": ("__init__", "book", "say"),
+}
+BUILTINS = (
+    "len range enumerate zip min max sum abs sorted reversed int str bool list tuple dict isinstance ord repr any all "
+    "divmod property staticmethod ValueError LookupError ArithmeticError TypeError AttributeError"
+).split()
+BUILTIN_METHODS = (
+    "append clear copy count endswith extend find get index insert isalnum isalpha isdigit islower isspace isupper items "
+    "join keys ljust lower lstrip partition pop remove replace reverse rfind rjust rpartition rsplit rstrip setdefault "
+    "split splitlines startswith strip update upper values zfill bit_length removeprefix removesuffix"
+).split()
+NOT_IN_FILES = (
+    "type typing typing_extensions enum Enum IntEnum StrEnum Flag IntFlag Generic Protocol ABC ABCMeta namedtuple "
+    "NamedTuple TypedDict TYPE_CHECKING abstractmethod"
+).split()
+NOT_AS_NAMES = (
+    "register mro elements open input law version_info with_traceback add_note attrgetter breakpoint builtins compile "
+    "copyright credits delattr dir eval exec exit gc getattr globals hasattr help id importlib license locals "
+    "methodcaller os quit setattr super type vars sys format format_map"
+).split()
 
 
 def rows_of(path):
@@ -106,6 +142,157 @@ def defined(tree):
 def bound_at_module_level(tree):
     targets = [target.id for row in tree.body if isinstance(row, ast.Assign) for target in row.targets]
     return bound_by_imports(tree) + defined(tree) + targets
+
+
+def classes_of(trees):
+    return [row for tree in trees for row in tree.body if isinstance(row, ast.ClassDef)]
+
+
+def methods_of(made):
+    return [row for row in made.body if isinstance(row, ast.FunctionDef)]
+
+
+class ClassesTest(unittest.TestCase):
+    """L5, L6 With, L18 and L26: what classes have, and what the names of methods and attributes mean."""
+
+    def setUp(self):
+        self.trees = [rows_of(path) for path in FILES]
+        self.classes = classes_of(self.trees)
+
+    def test_the_methods_of_the_interface_stand_in_the_class_itself(self):
+        by_name = {made.name: [row.name for row in methods_of(made)] for made in self.classes}
+        for name, wanted in METHODS.items():
+            self.assertEqual([each for each in wanted if each not in by_name[name]], [], name)
+
+    def test_no_name_is_a_method_here_and_an_attribute_there(self):
+        methods = {
+            row.name for made in self.classes for row in methods_of(made)
+            if not {"property", row.name + ".setter"} & set(decorators(row))
+        }
+        attributes = {name for tree in self.trees for name, row in assigned(tree)}
+        self.assertEqual(methods & (attributes | set(properties(self.trees))), set())
+        stored = attributes | set(properties(self.trees))
+        self.assertEqual([name for name in stored if name in dir(str) + dir(list) + dir(dict) and name != "index"], [])
+
+    def test_each_attribute_is_assigned_or_a_method(self):
+        methods = {row.name for made in self.classes for row in methods_of(made)}
+        known = {name for tree in self.trees for name, row in assigned(tree)} | methods | set(BUILTIN_METHODS)
+        read = {node.attr for tree in self.trees for node in ast.walk(tree) if isinstance(node, ast.Attribute)}
+        # A decorator of a property.
+        self.assertEqual(read - known, {"setter"})
+
+    def test_no_method_is_read_off_a_class(self):
+        """So that an error may keep an attribute with the name of a property of a record."""
+        names = {made.name for made in self.classes}
+        for tree in self.trees:
+            for node in ast.walk(tree):
+                if isinstance(node, ast.Attribute) and isinstance(node.value, ast.Name):
+                    self.assertNotIn(node.value.id, names)
+
+    def test_what_can_be_asked_for_by_a_key_is_not_iterated_over(self):
+        for made in self.classes:
+            methods = {row.name: row for row in methods_of(made)}
+            if "__getitem__" in methods:
+                rows = methods["__iter__"].body
+                self.assertEqual([len(rows), ast.unparse(rows[0])[:16]], [1, "raise TypeError("])
+
+    def test_trials_end_by_assigning_attributes_alone(self):
+        found = 0
+        for made in self.classes:
+            for row in methods_of(made):
+                if row.name == "__exit__":
+                    found += 1
+                    self.assertEqual([arg.arg for arg in row.args.args], ["self", "kind", "value", "trace"])
+                    for line in row.body:
+                        self.assertIsInstance(line, ast.Assign)
+                        self.assertIsInstance(line.value, ast.Attribute)
+                        self.assertEqual([type(target) for target in line.targets], [ast.Attribute])
+        self.assertEqual(found, 1)
+
+    def test_own_errors_alone_are_caught(self):
+        own = {made.name for made in self.classes}
+        for tree in self.trees:
+            for node in ast.walk(tree):
+                if isinstance(node, ast.ExceptHandler):
+                    caught = node.type.elts if isinstance(node.type, ast.Tuple) else [node.type]
+                    self.assertEqual([each.id for each in caught if each.id not in own], [])
+                if isinstance(node, ast.Try):
+                    self.assertEqual(node.finalbody, [])
+
+
+class WordsTest(unittest.TestCase):
+    """L8, L12, L17, L20, L24, L25 and L27: words, names and signs that may stand in a file."""
+
+    def test_words_that_stand_nowhere(self):
+        for path in FILES:
+            words = re.findall("[A-Za-z_0-9]+", path.read_text(encoding="ascii"))
+            self.assertEqual([word for word in words if word in NOT_IN_FILES], [], path.name)
+            self.assertEqual([word for word in words if re.search("dataclass|overload|contextmanager", word)], [])
+
+    def test_names(self):
+        for path in FILES:
+            for node in ast.walk(rows_of(path)):
+                name = getattr(node, "id", getattr(node, "attr", getattr(node, "arg", getattr(node, "name", None))))
+                if isinstance(name, str):
+                    self.assertNotIn(name, NOT_AS_NAMES, path.name)
+                    if not isinstance(node, ast.FunctionDef):
+                        self.assertFalse(name.startswith("_"), (path.name, name))
+
+    def test_builtins_and_their_methods(self):
+        methods = {row.name for made in classes_of([rows_of(path) for path in FILES]) for row in methods_of(made)}
+        for path in FILES:
+            tree = rows_of(path)
+            for node in ast.walk(tree):
+                if isinstance(node, ast.Name) and node.id in dir(builtins):
+                    self.assertIn(node.id, BUILTINS, path.name)
+                if isinstance(node, ast.Call) and isinstance(node.func, ast.Attribute):
+                    self.assertIn(node.func.attr, {*methods, *BUILTIN_METHODS}, path.name)
+
+    def test_is_stands_beside_none_and_truths_alone(self):
+        for path in FILES:
+            for node in ast.walk(rows_of(path)):
+                if isinstance(node, ast.Compare):
+                    for sign, side in zip(node.ops, node.comparators):
+                        if isinstance(sign, (ast.Is, ast.IsNot)):
+                            self.assertIsInstance(side, ast.Constant, path.name)
+
+    def test_signs_and_strings(self):
+        barred = (ast.Set, ast.SetComp, ast.Div, ast.Await, ast.AsyncFunctionDef, ast.Match, ast.NamedExpr, ast.Delete)
+        for path in FILES:
+            for node in ast.walk(rows_of(path)):
+                self.assertNotIsInstance(node, barred, path.name)
+                if isinstance(node, ast.Constant):
+                    self.assertNotIsInstance(node.value, (float, complex, bytes), path.name)
+                    if isinstance(node.value, str):
+                        self.assertNotIn("%", node.value)
+                        self.assertFalse(node.value.startswith("__"))
+
+    def test_a_table_at_module_level_is_read_on_the_spot_or_copied(self):
+        for path in FILES:
+            tree = rows_of(path)
+            tables = [row.targets[0].id for row in tree.body if isinstance(row, ast.Assign) and isinstance(row.value, ast.Dict)]
+            on_the_spot = [
+                id(part) for node in ast.walk(tree) for part in ast.iter_child_nodes(node)
+                if isinstance(node, (ast.Subscript, ast.Attribute, ast.Compare))
+                or (isinstance(node, ast.Call) and ast.unparse(node.func) == "dict")
+            ]
+            for node in ast.walk(tree):
+                if isinstance(node, ast.Name) and node.id in tables and isinstance(node.ctx, ast.Load):
+                    self.assertIn(id(node), on_the_spot, f"{path.name} {node.lineno}")
+
+
+class ImportsTest(unittest.TestCase):
+    """L16: no two files import from each other, neither directly nor through other files."""
+
+    def test_no_circle(self):
+        above = {
+            path.stem: {row.module.split(".")[1] for row in rows_of(path).body if isinstance(row, ast.ImportFrom)}
+            for path in FILES
+        }
+        while above:
+            free = [name for name, needed in above.items() if not needed & set(above)]
+            self.assertNotEqual(free, [], above)
+            above = {name: needed for name, needed in above.items() if name not in free}
 
 
 class NamesTest(unittest.TestCase):

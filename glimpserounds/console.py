@@ -1,0 +1,79 @@
+"""The console: lines that change a book and ask for what its records tell."""
+
+from glimpserounds.books import Book, check_known
+from glimpserounds.errors import InvalidLine
+from glimpserounds.letters import sure
+from glimpserounds.lines import order_in
+from glimpserounds.pairs import number_of, pairs, shortest
+from glimpserounds.records import Record
+
+DONE = "ok"
+NOTHING = "none"
+
+
+class Console:
+    """A book, and the lines that it is told."""
+
+    def __init__(self):
+        self.kept_book = Book()
+
+    @property
+    def book(self):
+        return self.kept_book
+
+    def say(self, line):
+        order = order_in(line)
+        if order is None:
+            raise InvalidLine(line)
+        check_known(self.kept_book, old_names(order))
+        return done(self.kept_book, order)
+
+
+def old_names(order):
+    """The names in an order that the book must have, from the left."""
+    word = order[0]
+    if word in ("undo", "="):
+        return ()
+    return order[1:3] if word in ("implies", "apart") else order[1:2]
+
+
+def done(book, order):
+    """Does what the order says, and returns what is said to it."""
+    word = order[0]
+    if word == "=":
+        return set_bounds(book, order)
+    if word == "sees":
+        return str(book.see(order[1], order[2], order[3]))
+    if word in ("sure", "number", "shortest", "pairs"):
+        return answer(book[order[1]], order)
+    if word == "undo":
+        book.undo()
+    elif word == "drop":
+        book.drop(order[1])
+    else:
+        book.claim(order)
+    return DONE
+
+
+def set_bounds(book, order):
+    name, width, least, most, pace = order[1:]
+    record = Record(width, least=least, most=most, paces=(pace,))
+    book[name] = record
+    return repr(record)
+
+
+def answer(record, order):
+    """What is said to a question about one record."""
+    word = order[0]
+    if word == "sure":
+        return shown(sure(record, order[2]))
+    if word == "number":
+        return str(number_of(record))
+    if word == "shortest":
+        return shown(shortest(record))
+    found = [f"{length} {pace}" for length, pace in pairs(record)]
+    return ", ".join(found) if len(found) > 0 else NOTHING
+
+
+def shown(value):
+    return NOTHING if value is None else str(value)
