@@ -1,6 +1,6 @@
 """The console: lines that change a book and ask for what its records tell."""
 
-from glimpserounds.books import Book, check_known
+from glimpserounds.books import Book
 from glimpserounds.errors import InvalidLine
 from glimpserounds.letters import sure
 from glimpserounds.lines import order_in
@@ -25,20 +25,12 @@ class Console:
         order = order_in(line)
         if order is None:
             raise InvalidLine(line)
-        check_known(self.kept_book, old_names(order))
         return done(self.kept_book, order)
-
-
-def old_names(order):
-    """The names in an order that the book must have, from the left."""
-    word = order[0]
-    if word in ("undo", "="):
-        return ()
-    return order[1:3] if word in ("implies", "apart") else order[1:2]
 
 
 def done(book, order):
     """Does what the order says, and returns what is said to it."""
+    # Names that are not there need no look ahead of this: the book tells them before all other errors.
     word = order[0]
     if word == "=":
         return set_bounds(book, order)
